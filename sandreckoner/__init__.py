@@ -1,0 +1,1 @@
+"""Sandreckoner: whole numbers too great to be written."""

@@ -1,0 +1,111 @@
+"""The examples of the interface, as they stand in the document."""
+
+import unittest
+
+from sandreckoner import errors
+
+FORMS = """
+>>> from sandreckoner.forms import of_int, size_of, to_int
+>>> of_int(3)
+((1, ((1, ((1, ()),)),)), (-1, ()))
+>>> size_of(of_int(3))
+5
+>>> to_int(((1, ((1, ((1, ()),)),)), (-1, ())))
+3
+"""
+SUMS = """
+>>> from sandreckoner.forms import of_int
+>>> from sandreckoner.sums import add, sum_terms
+>>> great = ((1, ((1, of_int(100)),)),)
+>>> add(great, of_int(-1)) == great + ((-1, ()),)
+True
+>>> sum_terms([(1, ()), (1, ()), (1, of_int(1))]) == of_int(4)
+True
+"""
+PRODUCTS = """
+>>> from sandreckoner.forms import of_int
+>>> from sandreckoner.products import multiply, shift
+>>> shift(of_int(12), of_int(-2)) == of_int(3)
+True
+>>> shift(of_int(12), of_int(-3))
+raises BadRange
+"""
+NOTATION = """
+>>> from sandreckoner.forms import of_int
+>>> from sandreckoner.notation import number_text, read_number
+>>> number_text(of_int(-6))
+'-[+[+[+[0]]]-[0]]+[+[0]]'
+>>> read_number("+[0]+[0]")
+raises BadForm
+"""
+REMAINDERS = """
+>>> from sandreckoner.forms import of_int
+>>> from sandreckoner.remainders import powers_of_two, remainder
+>>> remainder(of_int(-1), 10)
+9
+>>> powers_of_two(12)
+(2, 2)
+"""
+DIGITS = """
+>>> from sandreckoner.digits import digits_from, floor_shift, length
+>>> from sandreckoner.forms import of_int, to_int
+>>> digits_from(of_int(-6), of_int(0), 5)
+[0, 1, 0, 1, 1]
+>>> to_int(floor_shift(of_int(-7), of_int(1)))
+-4
+>>> to_int(length(of_int(-8)))
+4
+
+>>> from sandreckoner.digits import digit_at
+>>> from sandreckoner.forms import of_int
+>>> digit_at(of_int(1), of_int(-1))
+raises NotAllowed
+"""
+
+
+def steps_of(text):
+    """Pairs of a line of Python and the line that is expected below it, or None."""
+    found = []
+    for line in text.splitlines():
+        if line.startswith(">>> "):
+            found.append((line[4:], None))
+        elif line:
+            found[-1] = (found[-1][0], line)
+    return found
+
+
+class ExamplesTest(unittest.TestCase):
+    def follow(self, text):
+        names = {}
+        for line, expected in steps_of(text):
+            with self.subTest(line):
+                if expected is None:
+                    exec(line, names)
+                elif expected.startswith("raises "):
+                    with self.assertRaises(errors.ReckonError) as caught:
+                        eval(line, names)
+                    self.assertEqual(type(caught.exception).__name__, expected.removeprefix("raises "))
+                else:
+                    self.assertEqual(repr(eval(line, names)), expected)
+
+    def test_forms(self):
+        self.follow(FORMS)
+
+    def test_sums(self):
+        self.follow(SUMS)
+
+    def test_products(self):
+        self.follow(PRODUCTS)
+
+    def test_notation(self):
+        self.follow(NOTATION)
+
+    def test_remainders(self):
+        self.follow(REMAINDERS)
+
+    def test_digits(self):
+        self.follow(DIGITS)
+
+
+if __name__ == "__main__":
+    unittest.main()

@@ -1,0 +1,62 @@
+"""The names, arguments and constants of the interface, each in the file under which it is listed."""
+
+import importlib
+import inspect
+import unittest
+
+FUNCTIONS = {
+    "forms": {
+        "check_number": ["number"],
+        "size_of": ["number"],
+        "height_of": ["number"],
+        "compare": ["first", "second"],
+        "sign_of": ["number"],
+        "of_int": ["value"],
+        "to_int": ["number"],
+    },
+    "sums": {
+        "negate": ["number"],
+        "add": ["first", "second"],
+        "subtract": ["first", "second"],
+        "sum_terms": ["terms"],
+    },
+    "products": {"shift": ["number", "places"], "multiply": ["first", "second"]},
+    "notation": {"number_text": ["number"], "read_number": ["text"]},
+    "remainders": {"remainder": ["x", "m"], "power_remainder": ["exponent", "m"], "powers_of_two": ["m"]},
+    "digits": {
+        "floor_shift": ["x", "y"],
+        "digit_at": ["x", "place"],
+        "length": ["x"],
+        "low": ["x"],
+        "digits_from": ["x", "place", "count"],
+    },
+}
+CONSTANTS = {
+    "forms": {"MAX_SIZE": 300, "MAX_HEIGHT": 40},
+    "sums": {"MAX_TERMS": 400},
+    "products": {"MAX_PRODUCT": 400},
+    "remainders": {"MAX_MODULUS": 10000},
+    "digits": {"MAX_COUNT": 64},
+}
+
+
+class InterfaceTest(unittest.TestCase):
+    def test_functions(self):
+        for file, listed in FUNCTIONS.items():
+            module = importlib.import_module(f"sandreckoner.{file}")
+            for name, arguments in listed.items():
+                with self.subTest(name):
+                    function = getattr(module, name)
+                    self.assertEqual(function.__module__, f"sandreckoner.{file}")
+                    self.assertEqual(list(inspect.signature(function).parameters), arguments)
+
+    def test_constants(self):
+        for file, listed in CONSTANTS.items():
+            module = importlib.import_module(f"sandreckoner.{file}")
+            for name, value in listed.items():
+                with self.subTest(name):
+                    self.assertEqual(getattr(module, name), value)
+
+
+if __name__ == "__main__":
+    unittest.main()
