@@ -60,15 +60,18 @@ def digits_from(x, place, count):
     return [value >> at & 1 for at in range(count)]
 
 
-def length(x):
-    """The least number n from 0 on with |x| < 2 ** n."""
+def bare_length(x):
+    """The length of x, allowed or not."""
     if not x:
         return ()
     sign, exponent = x[0]
     # Terms of the other sign behind the first one take it below its power of two, but not below half of it.
-    if sign_of(x[1:]) == -sign:
-        return exponent
-    return allowed(plus_small(exponent, 1))
+    return exponent if sign_of(x[1:]) == -sign else plus_small(exponent, 1)
+
+
+def length(x):
+    """The least number n from 0 on with |x| < 2 ** n."""
+    return allowed(bare_length(x))
 
 
 def low(x):

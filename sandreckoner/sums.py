@@ -12,6 +12,11 @@ def negate(number):
     return tuple([(-sign, exponent) for sign, exponent in number])
 
 
+def absolute(number):
+    """The number without its sign."""
+    return negate(number) if sign_of(number) < 0 else number
+
+
 def add(first, second):
     """The sum of two numbers."""
     return allowed(bare_sum(first + second))

@@ -61,6 +61,19 @@ DIGITS = """
 >>> digit_at(of_int(1), of_int(-1))
 raises NotAllowed
 """
+LAST = """
+>>> from sandreckoner.forms import of_int
+>>> from sandreckoner.last import last_digits, lead
+>>> lead(of_int(-22), 3)
+5
+>>> last_digits(of_int(-1234), 2)
+34
+"""
+FORMULAS = """
+>>> from sandreckoner.formulas import read_formula
+>>> read_formula("1 - 2^x*3")
+('sub', ('int', 1), ('mul', ('pow', ('name', 'x')), ('int', 3)))
+"""
 
 
 def steps_of(text):
@@ -105,6 +118,12 @@ class ExamplesTest(unittest.TestCase):
 
     def test_digits(self):
         self.follow(DIGITS)
+
+    def test_last(self):
+        self.follow(LAST)
+
+    def test_formulas(self):
+        self.follow(FORMULAS)
 
 
 if __name__ == "__main__":

@@ -30,6 +30,10 @@ FUNCTIONS = {
         "low": ["x"],
         "digits_from": ["x", "place", "count"],
     },
+    "last": {"lead": ["x", "k"], "last_digits": ["x", "k"]},
+    "tokens": {"tokens": ["text"]},
+    "formulas": {"read_formula": ["text"], "names_of": ["tree"]},
+    "plain": {"shown_text": ["x"], "plain_text": ["tree"]},
 }
 CONSTANTS = {
     "forms": {"MAX_SIZE": 300, "MAX_HEIGHT": 40},
@@ -37,6 +41,9 @@ CONSTANTS = {
     "products": {"MAX_PRODUCT": 400},
     "remainders": {"MAX_MODULUS": 10000},
     "digits": {"MAX_COUNT": 64},
+    "last": {"MAX_LEAD": 60, "MAX_LAST": 4},
+    "tokens": {"MAX_TEXT": 1000},
+    "formulas": {"MAX_LEVELS": 30},
 }
 
 
