@@ -1,4 +1,4 @@
-"""A second reader of formulas, written from the grammar of [3.2], and random texts.
+"""A second reader of formulas and programs, written from the grammars of [3.2] and [3.6], and random texts.
 
 It cuts a text at its last operation, where the package reads from the left to the right.
 """
@@ -13,6 +13,7 @@ INTEGER = re.compile(r"0|[1-9][0-9]{0,17}")
 SUMS = {"+": "add", "-": "sub"}
 PRODUCTS = {"*": "mul", "<<": "up", ">>": "down"}
 MARK = {"add": "+", "sub": "-", "mul": "*", "up": "<<", "down": ">>"}
+TESTS = ["<", "<=", "==", "!="]
 RANKS = {"add": 1, "sub": 1, "mul": 2, "up": 2, "down": 2}
 NAMES = ["a", "b", "x", "ab", "xyz", "i", "lens", "remo", "mi", "zzzz"]
 
@@ -110,6 +111,72 @@ def formula(text):
     """The tree of a formula, or None."""
     try:
         return tree(cut(text))
+    except Wrong:
+        return None
+
+
+def index_of(parts, token):
+    if token not in parts:
+        raise Wrong
+    return parts.index(token)
+
+
+def behind_block(parts, at):
+    """The index behind the block that begins at an index."""
+    depth = 0
+    for index in range(at, len(parts)):
+        depth += (parts[index] == "{") - (parts[index] == "}")
+        if depth == 0:
+            return index + 1
+    raise Wrong
+
+
+def behind_statement(parts):
+    if parts[0] not in ("turn", "if"):
+        return index_of(parts, ";") + 1
+    end = behind_block(parts, index_of(parts, "{"))
+    if parts[0] == "if" and parts[end:end + 1] == ["else"]:
+        if parts[end + 1:end + 2] != ["{"]:
+            raise Wrong
+        return behind_block(parts, end + 1)
+    return end
+
+
+def statements(parts, level=0):
+    """The list of the statements of tokens."""
+    if level > 30:
+        raise Wrong
+    found = []
+    while parts:
+        end = behind_statement(parts)
+        found.append(statement(parts[:end], level))
+        parts = parts[end:]
+    return found
+
+
+def statement(parts, level):
+    if parts[0] in ("turn", "if"):
+        brace = parts.index("{")
+        end = behind_block(parts, brace)
+        block = statements(parts[brace + 1:end - 1], level + 1)
+        if parts[0] == "turn":
+            return ("turn", tree(parts[1:brace], level), block)
+        marks = [at for at in range(1, brace) if parts[at] in TESTS]
+        if len(marks) != 1:
+            raise Wrong
+        left, right = tree(parts[1:marks[0]], level), tree(parts[marks[0] + 1:brace], level)
+        return ("if", parts[marks[0]], left, right, block, statements(parts[end + 2:-1], level + 1))
+    if parts[0] == "show":
+        return ("show", tree(parts[1:-1], level))
+    if not is_name(parts[0]) or parts[1] != "=":
+        raise Wrong
+    return ("let", parts[0], tree(parts[2:-1], level))
+
+
+def program(text):
+    """The list of the statements of a program, or None."""
+    try:
+        return statements(cut(text))
     except Wrong:
         return None
 

@@ -74,6 +74,30 @@ FORMULAS = """
 >>> read_formula("1 - 2^x*3")
 ('sub', ('int', 1), ('mul', ('pow', ('name', 'x')), ('int', 3)))
 """
+PROGRAMS = """
+>>> from sandreckoner.programs import run_program
+>>> run_program("a = 1; turn 3 { a = 2^a; show a; }")
+(['2', '4', '16'], 'ok', 11)
+"""
+TURNS = """
+>>> from sandreckoner.forms import of_int
+>>> from sandreckoner.turns import cycle_of, joined, state_behind
+>>> table = ((1, 1, 0, 0), (1, 0, 0, 0), (0, 0, 1, -1))
+>>> cycle_of(table, (1, 0, 0), 2)
+(0, 6)
+>>> state_behind(table, (1, 0, 0), of_int(2), 5)
+(2, 1, 3)
+>>> joined(table, table, 5)
+((2, 1, 0, 0), (1, 1, 0, 0), (0, 0, 1, 3))
+"""
+RECUR = """
+>>> from sandreckoner.forms import of_int, to_int
+>>> from sandreckoner.recur import grown, sequence_at
+>>> sequence_at([2], [3], of_int(4), 12)
+0
+>>> to_int(grown(True, of_int(1), of_int(-3), of_int(4)))
+-29
+"""
 
 
 def steps_of(text):
@@ -124,6 +148,15 @@ class ExamplesTest(unittest.TestCase):
 
     def test_formulas(self):
         self.follow(FORMULAS)
+
+    def test_programs(self):
+        self.follow(PROGRAMS)
+
+    def test_turns(self):
+        self.follow(TURNS)
+
+    def test_recur(self):
+        self.follow(RECUR)
 
 
 if __name__ == "__main__":

@@ -34,6 +34,15 @@ FUNCTIONS = {
     "tokens": {"tokens": ["text"]},
     "formulas": {"read_formula": ["text"], "names_of": ["tree"]},
     "plain": {"shown_text": ["x"], "plain_text": ["tree"]},
+    "evaluate": {"value_of": ["tree", "values"]},
+    "programs": {"run_program": ["text"]},
+    "turns": {
+        "cycle_of": ["table", "start", "m"],
+        "state_behind": ["table", "start", "times", "m"],
+        "joined": ["first", "second", "m"],
+        "table_behind": ["table", "times", "m"],
+    },
+    "recur": {"sequence_at": ["factors", "first", "place", "m"], "grown": ["double", "x", "c", "times"]},
 }
 CONSTANTS = {
     "forms": {"MAX_SIZE": 300, "MAX_HEIGHT": 40},
@@ -44,6 +53,9 @@ CONSTANTS = {
     "last": {"MAX_LEAD": 60, "MAX_LAST": 4},
     "tokens": {"MAX_TEXT": 1000},
     "formulas": {"MAX_LEVELS": 30},
+    "evaluate": {"MAX_TOWER": 40},
+    "programs": {"MAX_STEPS": 2000},
+    "turns": {"MAX_TURN_MODULUS": 12},
 }
 
 
