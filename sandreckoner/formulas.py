@@ -14,8 +14,32 @@ SIGNS = {"-": "neg", "2^": "pow"}
 OPERATIONS = ("add", "sub", "mul", "up", "down")
 
 
+def is_name(word):
+    """Whether a text is a name."""
+    if word in FUNCTIONS or word in KEYWORDS:
+        return False
+    return 1 <= len(word) <= MAX_NAME and run_of(SMALL_LETTERS, word, 0) == word
+
+
+def is_integer(word):
+    """Whether a text is an integer as formulas have it."""
+    if word[:1] == "0" and word != "0":
+        return False
+    return 1 <= len(word) <= MAX_FIGURES and run_of(DIGITS, word, 0) == word
+
+
+def deeper(level):
+    """The number of levels within one more."""
+    if level == MAX_LEVELS:
+        raise BadForm("too many levels")
+    return level + 1
+
+
 class Reader:
-    """The tokens of a text, and how far they are read."""
+    """The tokens of a text, and how far they are read.
+
+    What is called level is the number of levels around that which is read.
+    """
 
     def __init__(self, text):
         self.parts = tokens(text)
@@ -46,82 +70,56 @@ class Reader:
         if self.ahead() != "":
             raise BadForm("something stands behind the end")
 
-
-def is_name(word):
-    """Whether a text is a name."""
-    if word in FUNCTIONS or word in KEYWORDS:
-        return False
-    return 1 <= len(word) <= MAX_NAME and run_of(SMALL_LETTERS, word, 0) == word
-
-
-def is_integer(word):
-    """Whether a text is an integer as formulas have it."""
-    if word[:1] == "0" and word != "0":
-        return False
-    return 1 <= len(word) <= MAX_FIGURES and run_of(DIGITS, word, 0) == word
-
-
-def deeper(level):
-    """The number of levels within one more."""
-    if level == MAX_LEVELS:
-        raise BadForm("too many levels")
-    return level + 1
-
-
-def read_sum(reader, level):
-    """The tree of the sum that comes next, within so many levels."""
-    tree = read_product(reader, level)
-    while reader.ahead() in SUMS:
-        kind = SUMS[reader.take()]
-        tree = (kind, tree, read_product(reader, level))
-    return tree
-
-
-def read_product(reader, level):
-    tree = read_sign(reader, level)
-    while reader.ahead() in PRODUCTS:
-        kind = PRODUCTS[reader.take()]
-        tree = (kind, tree, read_sign(reader, level))
-    return tree
-
-
-def read_sign(reader, level):
-    if reader.ahead() in SIGNS:
-        kind = SIGNS[reader.take()]
-        return (kind, read_sign(reader, deeper(level)))
-    return read_part(reader, level)
-
-
-def read_part(reader, level):
-    token = reader.take()
-    if token == "(":
-        tree = read_sum(reader, deeper(level))
-        reader.demand(")")
+    def read_sum(self, level):
+        """The tree of the sum that comes next."""
+        tree = self.read_product(level)
+        while self.ahead() in SUMS:
+            kind = SUMS[self.take()]
+            tree = (kind, tree, self.read_product(level))
         return tree
-    if token in FUNCTIONS:
-        return ("call", token, read_args(reader, deeper(level), FUNCTIONS[token]))
-    if is_name(token):
-        return ("name", token)
-    if is_integer(token):
-        return ("int", int(token))
-    raise BadForm("a part of a formula is missing")
 
+    def read_product(self, level):
+        tree = self.read_sign(level)
+        while self.ahead() in PRODUCTS:
+            kind = PRODUCTS[self.take()]
+            tree = (kind, tree, self.read_sign(level))
+        return tree
 
-def read_args(reader, level, many):
-    """The tuple of the trees of so many arguments, which stand in parentheses."""
-    reader.demand("(")
-    args = [read_sum(reader, level)]
-    while len(args) < many:
-        reader.demand(",")
-        args.append(read_sum(reader, level))
-    reader.demand(")")
-    return tuple(args)
+    def read_sign(self, level):
+        if self.ahead() in SIGNS:
+            kind = SIGNS[self.take()]
+            return (kind, self.read_sign(deeper(level)))
+        return self.read_part(level)
+
+    def read_part(self, level):
+        token = self.take()
+        if token == "(":
+            tree = self.read_sum(deeper(level))
+            self.demand(")")
+            return tree
+        if token in FUNCTIONS:
+            return ("call", token, self.read_args(deeper(level), FUNCTIONS[token]))
+        if is_name(token):
+            return ("name", token)
+        if is_integer(token):
+            return ("int", int(token))
+        raise BadForm("a part of a formula is missing")
+
+    def read_args(self, level, many):
+        """The tuple of the trees of so many arguments, which stand in parentheses."""
+        self.demand("(")
+        args = [self.read_sum(level)]
+        while len(args) < many:
+            self.demand(",")
+            args.append(self.read_sum(level))
+        self.demand(")")
+        return tuple(args)
 
 
 def read_formula(text):
     """The tree of a formula."""
     reader = Reader(text)
-    tree = read_sum(reader, 0)
+    tree = reader.read_sum(0)
     reader.check_end()
     return tree
 
