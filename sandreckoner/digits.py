@@ -1,9 +1,9 @@
 """Binary digits of numbers."""
 
-from sandreckoner.bare import bare_shift, rank
+from sandreckoner.bare import bare_shift, gap, order
 from sandreckoner.errors import Missing, NotAllowed
 from sandreckoner.forms import allowed, sign_of
-from sandreckoner.small import plus_small, value_within
+from sandreckoner.small import plus_small
 from sandreckoner.sums import negate
 
 MAX_COUNT = 64
@@ -14,30 +14,31 @@ def check_place(place):
         raise NotAllowed("the place is negative")
 
 
-def split_at(x, place):
-    """The terms of x from a place on, and those below it."""
-    bound = rank(place)
-    many = len([exponent for _, exponent in x if rank(exponent) >= bound])
-    return x[:many], x[many:]
+def many_from(x, place):
+    """How many terms of x have exponents from a place on."""
+    begin = 0
+    end = len(x)
+    while begin < end:
+        middle = (begin + end) // 2
+        if order(x[middle][1], place) < 0:
+            end = middle
+        else:
+            begin = middle + 1
+    return begin
+
+
+def borrowed(x, many):
+    """1 if the terms of x behind the first so many come to less than 0, otherwise 0.
+
+    They come to less than the power of two of each of the first ones, so the floor is less by just this.
+    """
+    return 1 if sign_of(x[many:]) < 0 else 0
 
 
 def bare_floor(x, y):
     """The floor of x / 2 ** y, allowed or not."""
-    upper, lower = split_at(x, y)
-    whole = bare_shift(upper, negate(y))
-    # The terms below the place y come to less than 2 ** y in either direction.
-    return plus_small(whole, -1) if sign_of(lower) < 0 else whole
-
-
-def low_value(x, bits):
-    """An integer that has the digits of x at the places below bits."""
-    total = 0
-    for sign, exponent in x[::-1]:
-        place = value_within(exponent, bits.bit_length())
-        if place is None or place >= bits:
-            break
-        total += sign << place
-    return total
+    many = many_from(x, y)
+    return plus_small(bare_shift(x[:many], negate(y)), -borrowed(x, many))
 
 
 def floor_shift(x, y):
@@ -48,7 +49,10 @@ def floor_shift(x, y):
 
 def digit_at(x, place):
     """The digit of x at a place, 0 or 1."""
-    return digits_from(x, place, 1)[0]
+    check_place(place)
+    many = many_from(x, place)
+    own = 1 if many > 0 and x[many - 1][1] == place else 0
+    return own ^ borrowed(x, many)
 
 
 def digits_from(x, place, count):
@@ -56,7 +60,13 @@ def digits_from(x, place, count):
     check_place(place)
     if count < 0 or count > MAX_COUNT:
         raise NotAllowed("the count is out of range")
-    value = low_value(bare_floor(x, place), count)
+    many = many_from(x, place)
+    value = -borrowed(x, many)
+    for sign, exponent in x[:many][::-1]:
+        step = gap(exponent, place)
+        if step is None or step >= count:
+            break
+        value += sign << step
     return [value >> at & 1 for at in range(count)]
 
 

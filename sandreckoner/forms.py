@@ -1,6 +1,6 @@
 """The form of numbers, their size and order, and numbers for integers."""
 
-from sandreckoner.bare import rank
+from sandreckoner.bare import order
 from sandreckoner.errors import NotAllowed, TooLarge
 from sandreckoner.small import bare_number, plus_small, value_within
 
@@ -32,7 +32,8 @@ def height_of(number):
 
 def is_allowed(number):
     """Whether the size and the height are within the bounds."""
-    return size_of(number) <= MAX_SIZE and height_of(number) <= MAX_HEIGHT
+    rows = levels(number)
+    return sum([len(row) for row in rows]) <= MAX_SIZE and len(rows) <= MAX_HEIGHT + 1
 
 
 def allowed(number):
@@ -65,9 +66,7 @@ def are_apart(upper, lower):
 
 def compare(first, second):
     """-1 if the first number is less than the second one, 0 if they are equal, otherwise 1."""
-    if first == second:
-        return 0
-    return 1 if rank(first) > rank(second) else -1
+    return order(first, second)
 
 
 def sign_of(number):

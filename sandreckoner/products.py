@@ -1,6 +1,6 @@
 """Products and shifts of numbers."""
 
-from sandreckoner.bare import bare_shift, bare_sum
+from sandreckoner.bare import bare_shift, bare_sum, plus
 from sandreckoner.errors import BadRange, TooLarge
 from sandreckoner.forms import allowed, sign_of
 
@@ -9,10 +9,14 @@ MAX_PRODUCT = 400
 
 def shift(number, places):
     """number * 2 ** places, where places may be negative."""
+    if not number:
+        return number
+    sign, exponent = number[-1]
     # The least term decides whether the result is whole, as all others are multiples of it.
-    if number and sign_of(bare_sum(number[-1][1] + places)) < 0:
+    least = plus(exponent, places)
+    if sign_of(least) < 0:
         raise BadRange("not a whole number")
-    return allowed(bare_shift(number, places))
+    return allowed(bare_shift(number[:-1], places) + ((sign, least),))
 
 
 def multiply(first, second):
@@ -20,5 +24,5 @@ def multiply(first, second):
     if len(first) * len(second) > MAX_PRODUCT:
         raise TooLarge("too many products of terms")
     return allowed(bare_sum(
-        [(sign * other, bare_sum(exponent + places)) for sign, exponent in first for other, places in second]
+        [(sign * other, place) for sign, exponent in first for other, place in bare_shift(second, exponent)]
     ))

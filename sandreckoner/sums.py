@@ -1,6 +1,6 @@
 """Sums and differences of numbers."""
 
-from sandreckoner.bare import bare_sum
+from sandreckoner.bare import bare_sum, plus
 from sandreckoner.errors import NotAllowed, TooLarge
 from sandreckoner.forms import allowed, sign_of
 
@@ -19,7 +19,7 @@ def absolute(number):
 
 def add(first, second):
     """The sum of two numbers."""
-    return allowed(bare_sum(first + second))
+    return allowed(plus(first, second))
 
 
 def subtract(first, second):

@@ -4,8 +4,8 @@ import random
 import unittest
 
 import model
-from sandreckoner.bare import bare_shift, bare_sum, gap, rank
-from sandreckoner.small import bare_number, plus_small, signed_places, value_within
+from sandreckoner.bare import bare_shift, bare_sum, gap, index_in, order, plus, settled
+from sandreckoner.small import FIRST_END, FIRST_NUMBERS, bare_number, plus_small, signed_places, value_within
 
 GREAT = model.raised(model.number(100), 2)
 
@@ -22,6 +22,19 @@ class SmallTest(unittest.TestCase):
             for value in (rng.getrandbits(many), -rng.getrandbits(many), 4 ** many // 3):
                 self.assertEqual(signed_places(value)[::-1], model.places_of(value))
                 self.assertEqual(bare_number(value), model.number(value))
+
+    def test_first_numbers(self):
+        self.assertEqual(list(FIRST_NUMBERS), [model.number(value) for value in range(FIRST_END)])
+
+    def test_value_within_of_great_numbers(self):
+        for bits in (0, 1, 2, 3, 6, 7, 8, 9, 15, 16, 64, 512, 1000):
+            for place in (bits - 1, bits, bits + 1, bits + 2, 3 * bits):
+                for more in (0, 1, -1):
+                    value = (1 << max(place, 0)) + more
+                    within = not value or model.places_of(value)[0][1] <= bits
+                    self.assertEqual(value_within(model.number(value), bits), value if within else None)
+            self.assertIsNone(value_within(model.power(GREAT), bits))
+            self.assertIsNone(value_within(model.opposite(model.raised((), 40)), bits))
 
     def test_value_within(self):
         for value in range(-200, 201):
@@ -81,13 +94,70 @@ class BareTest(unittest.TestCase):
         self.assertEqual(bare_sum([(sign, model.number(place)) for sign, place in rows]), model.number(value))
         self.assertEqual(bare_sum([(1, GREAT)] * 3000), bare_shift(model.number(3000), GREAT))
 
-    def test_rank(self):
+    def test_order(self):
         rng = random.Random(75)
         rows = [model.random_number(rng, 5) for _ in range(40)]
+        rows += [x[:at] for x in rows[:8] for at in range(len(x))]
         for x in rows:
             for y in rows:
-                self.assertEqual((rank(x) > rank(y)) - (rank(x) < rank(y)), model.order(x, y))
-                self.assertEqual((rank(x, -1) > rank(y, -1)) - (rank(x, -1) < rank(y, -1)), model.order(y, x))
+                self.assertEqual(order(x, y), model.order(x, y))
+                self.assertEqual(order(model.opposite(x), model.opposite(y)), model.order(y, x))
+
+    def test_order_of_numbers_that_are_not_allowed(self):
+        for many in (60, 200):
+            upper, lower = halves(many)
+            for base in ((), model.power(GREAT)):
+                x, y = base + model.number(upper), base + model.number(lower)
+                self.assertEqual([order(x, y), order(y, x), order(x, x)], [1, -1, 0])
+                self.assertEqual([order(model.power(x), model.power(y)), order(model.power(y), model.power(x))], [1, -1])
+
+    def test_plus(self):
+        rng = random.Random(76)
+        for _ in range(400):
+            x, y = model.random_number(rng, 6), model.random_number(rng, 6)
+            self.assertEqual(plus(x, y), model.plus(x, y))
+
+    def test_plus_around_numbers_that_are_taken_as_integers(self):
+        rng = random.Random(77)
+        for place in (60, 64, 66, 500, 510, 512, 514, 600, 680, 1000, 1030):
+            for _ in range(30):
+                a, b = [sum(rng.choice((1, -1)) << abs(place + rng.randrange(-6, 7)) for _ in range(4)) for _ in range(2)]
+                self.assertEqual(plus(model.number(a), model.number(b)), model.number(a + b))
+                high = model.power(GREAT)
+                self.assertEqual(plus(high + model.number(a), model.number(b)), high + model.number(a + b))
+                expected = model.total([(1, model.following(GREAT))] + list(model.number(a + b)))
+                self.assertEqual(plus(high + model.number(a), high + model.number(b)), expected)
+                terms = list(model.number(a)) + [(-1, GREAT)] + list(model.number(b)) + [(1, GREAT)]
+                self.assertEqual(bare_sum(terms), model.number(a + b))
+
+    def test_plus_with_carries_into_the_terms_of_one_number_alone(self):
+        for many in (1, 5, 40):
+            long = model.number(2 * (4 ** many - 1) // 3)
+            base = tuple((sign, model.plus(GREAT, place)) for sign, place in long)
+            for value in (1, 2, -1, -2, 3):
+                more = tuple((sign, model.plus(GREAT, place)) for sign, place in model.number(value))
+                total = model.number(2 * (4 ** many - 1) // 3 + value)
+                expected = tuple((sign, model.plus(GREAT, place)) for sign, place in total)
+                self.assertEqual(plus(base, more), expected)
+                self.assertEqual(plus(more, base), expected)
+                self.assertEqual(plus(base + model.number(5), more), expected + model.number(5))
+
+    def test_settled(self):
+        rng = random.Random(78)
+        for base in ((), GREAT):
+            for _ in range(200):
+                places = sorted(rng.sample(range(40), rng.randrange(1, 9)))
+                row = [(rng.randrange(-5, 6), model.plus(base, model.number(place))) for place in places]
+                value = sum(own << place for (own, _), place in zip(row, places))
+                expected = tuple((sign, model.plus(base, model.number(place))) for sign, place in model.places_of(value))
+                self.assertEqual(settled(row, len(row)), expected)
+
+    def test_index_in(self):
+        for base in ((), GREAT):
+            for many in range(8):
+                row = [(7, model.plus(base, model.number(2 * at + 1))) for at in range(many)]
+                for place in range(2 * many + 2):
+                    self.assertEqual(index_in(row, model.plus(base, model.number(place))), place // 2)
 
 
 if __name__ == "__main__":

@@ -363,6 +363,22 @@ class TimeTest(unittest.TestCase):
                         pass
         self.assertLess(time.perf_counter() - begin, 20)
 
+    def test_time_with_many_terms(self):
+        # Each second digit of this number is set.
+        x = model.number(-96076792050570581)
+        self.assertEqual((len(x), model.size(x)), (29, 285))
+        places = [model.number(place) for place in (0, 1, 7, 40)]
+        times = []
+        # The least of three times: something else may run on the machine for a while.
+        for _ in range(3):
+            begin = time.perf_counter()
+            for _ in range(500):
+                for place in places:
+                    floor_shift(x, place)
+            times.append(time.perf_counter() - begin)
+        print(f"2000 calls of floor_shift: {min(times):.2f} seconds")
+        self.assertLess(min(times), 1)
+
 
 if __name__ == "__main__":
     unittest.main()
