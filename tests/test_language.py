@@ -18,7 +18,13 @@ BUILTINS = {
 METHODS = {
     "append", "clear", "copy", "count", "endswith", "extend", "find", "get", "index", "insert", "isalnum", "isalpha",
     "isdigit", "items", "join", "keys", "pop", "remove", "replace", "reverse", "setdefault", "split", "startswith",
-    "strip", "update", "values", "bit_length", "add", "discard", "sort",
+    "strip", "update", "values", "bit_length", "add", "discard", "sort", "islower", "lower", "upper", "partition",
+    "swapcase",
+}
+# Names that attributes do not have.
+ATTRIBUTES = {
+    "items", "keys", "values", "pop", "update", "append", "clear", "extend", "insert", "remove", "reverse", "setdefault",
+    "sort", "args", "encode", "decode", "hex", "fromhex", "format",
 }
 WORDS = re.compile(
     r"\b(type|typing|enum|Enum|Flag|Generic|Protocol|ABC|namedtuple|register|mro|elements|open|input|law|eval|exec"
@@ -143,6 +149,31 @@ class LanguageTest(unittest.TestCase):
                 if isinstance(node, ast.Call) and isinstance(node.func, ast.Attribute):
                     self.assertIn(node.func.attr, own | METHODS, name)
                     self.assertEqual([part.arg for part in node.keywords if node.func.attr in METHODS], [], name)
+
+    def test_attributes(self):
+        stored, read, methods = set(), {}, set()
+        for name, tree in trees():
+            for node in ast.walk(tree):
+                if isinstance(node, ast.ClassDef):
+                    own = {part.name for part in node.body if isinstance(part, ast.FunctionDef)}
+                    attributes = {
+                        part.attr for part in ast.walk(node)
+                        if isinstance(part, ast.Attribute) and isinstance(part.ctx, ast.Store)
+                    }
+                    self.assertFalse(own & attributes, f"{name}: {node.name}")
+                    methods |= own
+                    stored |= attributes
+                elif isinstance(node, ast.Attribute) and isinstance(node.ctx, ast.Load):
+                    read[node.attr] = name
+        self.assertFalse(stored & ATTRIBUTES)
+        for attribute, name in read.items():
+            self.assertIn(attribute, stored | methods | METHODS, name)
+
+    def test_names_begin_without_underscores(self):
+        for name, tree in trees():
+            for node in ast.walk(tree):
+                if isinstance(node, ast.Attribute):
+                    self.assertFalse(node.attr.startswith("_") and node.attr != "__init__", f"{name}: {node.attr}")
 
     def test_words(self):
         for path in FILES:
