@@ -1,7 +1,7 @@
 """Values of formulas."""
 
 from sandreckoner.digits import digit_at, floor_shift, length, low
-from sandreckoner.errors import Missing, NotAllowed
+from sandreckoner.errors import NotAllowed, raise_told
 from sandreckoner.forms import allowed, compare
 from sandreckoner.formulas import unrolled
 from sandreckoner.products import multiply, shift
@@ -15,10 +15,15 @@ ONE = ((1, ()),)
 
 def value_of(tree, values):
     """The value of a tree, where names have the values that a dict gives them."""
+    return value_over(tree, values, {})
+
+
+def value_over(tree, values, words):
+    """The value of a tree, where a name without a value has the error that a dict of words tells, or Missing."""
     first, steps = unrolled(tree)
-    value = single_value(first, values)
+    value = single_value(first, values, words)
     for kind, right in steps:
-        value = operation_value(kind, value, value_of(right, values))
+        value = operation_value(kind, value, value_over(right, values, words))
     return value
 
 
@@ -34,20 +39,20 @@ def operation_value(kind, first, second):
     return floor_shift(first, second)
 
 
-def single_value(tree, values):
+def single_value(tree, values, words):
     """The value of a tree that is no sum and no product."""
     kind = tree[0]
     if kind == "int":
         return allowed(bare_number(tree[1]))
     if kind == "name":
         if tree[1] not in values:
-            raise Missing("the name has no value")
+            raise_told(words.get(tree[1], "missing"))
         return values[tree[1]]
     if kind == "neg":
-        return negate(value_of(tree[1], values))
+        return negate(value_over(tree[1], values, words))
     if kind == "pow":
-        return shift(ONE, value_of(tree[1], values))
-    return call_value(tree[1], [value_of(part, values) for part in tree[2]])
+        return shift(ONE, value_over(tree[1], values, words))
+    return call_value(tree[1], [value_over(part, values, words) for part in tree[2]])
 
 
 def call_value(name, args):

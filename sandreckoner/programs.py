@@ -1,6 +1,6 @@
 """Programs: texts whose statements calculate with numbers and show them."""
 
-from sandreckoner.errors import BadForm, BadRange, Missing, NoSteps, NotAllowed, TooLarge
+from sandreckoner.errors import BadForm, NoSteps, NotAllowed, ReckonError
 from sandreckoner.evaluate import value_of
 from sandreckoner.forms import compare, sign_of
 from sandreckoner.formulas import Reader, deeper, is_name
@@ -130,16 +130,8 @@ class Run:
         """Runs a program, and tells the word for how it ends."""
         try:
             self.run_block(block)
-        except NotAllowed:
-            return "refused"
-        except BadRange:
-            return "range"
-        except TooLarge:
-            return "large"
-        except Missing:
-            return "missing"
-        except NoSteps:
-            return "steps"
+        except ReckonError as error:
+            return error.word
         return "ok"
 
 

@@ -1,8 +1,11 @@
 """The examples of the interface, as they stand in the document."""
 
+import pathlib
 import unittest
 
 from sandreckoner import errors
+
+README = pathlib.Path(__file__).resolve().parent.parent / "README.md"
 
 FORMS = """
 >>> from sandreckoner.forms import of_int, size_of, to_int
@@ -98,6 +101,81 @@ RECUR = """
 >>> to_int(grown(True, of_int(1), of_int(-3), of_int(4)))
 -29
 """
+WORDS = """
+>>> from sandreckoner.words import inverse_word
+>>> inverse_word("abB")
+'bBA'
+"""
+BAUM = """
+>>> from sandreckoner.baum import inverse_element, multiply_elements
+>>> from sandreckoner.forms import of_int
+>>> one = of_int(1)
+>>> doubling = ((), (), one)
+>>> adding = (one, (), ())
+>>> multiply_elements(adding, doubling) == (one, (), one)
+True
+>>> multiply_elements(doubling, adding) == (one, one, one)
+True
+>>> inverse_element((one, (), one)) == (of_int(-1), of_int(-1), of_int(-1))
+True
+
+>>> from sandreckoner.baum import are_same, is_unit
+>>> is_unit("baBabAB" + "AA")
+True
+>>> is_unit("baBabAB" + "A")
+False
+>>> are_same("baBabAB", "aa")
+True
+"""
+BAUM_TRACE = """
+>>> from sandreckoner.baum_trace import check_trace, trace
+>>> trace("bB")
+([(0, ())], 0, ((), (), ()))
+>>> trace("Bab")
+([], 2, None)
+>>> check_trace("bBbB", [(1, ()), (0, ())])
+(0, ((), (), ()))
+>>> check_trace("baBabABAA", [(1, ((1, ()),))])
+raises Missing
+"""
+HIGMAN = """
+>>> from sandreckoner.higman import are_same, is_unit, length_of
+>>> is_unit("abA" + "BB")
+True
+>>> are_same("aab", "bbbbaa")
+True
+>>> are_same("ab", "ba")
+False
+>>> [length_of(word) for word in ["", "cA", "ab", "bd", "bdb"]]
+[0, 0, 1, 2, 3]
+"""
+HIGMAN_TRACE = """
+>>> from sandreckoner.forms import of_int
+>>> from sandreckoner.higman_trace import check_trace, trace
+>>> trace("dab" + "ABBD")
+([(1, [])], 0, [])
+>>> trace("dacD") == ([(1, [("a", of_int(1)), ("c", of_int(1))])], 1, [])
+True
+>>> trace("ca") == ([], 0, [("c", of_int(1)), ("a", of_int(1))])
+True
+>>> check_trace("bd", [(0, [])])
+raises Missing
+"""
+SHEET = """
+>>> from sandreckoner.sheet import Sheet
+>>> sheet = Sheet()
+>>> sheet.set_cell("b", "2^a + 1")
+>>> sheet.set_cell("a", "3")
+>>> sheet.renewed()
+['a', 'b']
+>>> sheet.image()
+'a=3;b=2^a + 1;'
+"""
+DESK = r"""
+>>> from sandreckoner.desk import run_script
+>>> run_script("set a = 2^100\nset b = 2^a + 1\nrenewed\nshow b\nundo\nshow b")
+['ok', 'ok', 'b', '2^(2^100) + 2^0', 'ok', 'missing']
+"""
 
 
 def steps_of(text):
@@ -157,6 +235,32 @@ class ExamplesTest(unittest.TestCase):
 
     def test_recur(self):
         self.follow(RECUR)
+
+    def test_words(self):
+        self.follow(WORDS)
+
+    def test_baum(self):
+        self.follow(BAUM)
+
+    def test_baum_trace(self):
+        self.follow(BAUM_TRACE)
+
+    def test_higman(self):
+        self.follow(HIGMAN)
+
+    def test_higman_trace(self):
+        self.follow(HIGMAN_TRACE)
+
+    def test_sheet(self):
+        self.follow(SHEET)
+
+    def test_desk(self):
+        self.follow(DESK)
+
+    def test_readme(self):
+        blocks = [block for block in README.read_text().split("```\n") if block.startswith(">>> ")]
+        self.assertGreater(len(blocks), 3)
+        self.follow("".join(blocks))
 
 
 if __name__ == "__main__":
