@@ -19,8 +19,8 @@ class Factor:
     """An element of a half, which is told by its three letters, as a product of elements of the half's pairs.
 
     The row has pairs of a side and an element of the pair on this side: 0 is that of the first two
-    letters, 1 that of the last two. The sides are in turns, and no element is a power of the letter
-    that both pairs share, unless it is the only one.
+    letters, 1 that of the last two. The sides are in turns, and no element but the last one is a
+    power of the letter that both pairs share.
     """
 
     def __init__(self, half):
@@ -32,15 +32,10 @@ class Factor:
         while self.row:
             other, last = self.row[-1]
             if side != other:
-                power = shared_power(side, element)
-                if power is not None:
-                    side = other
-                    element = shared_element(side, power)
-                else:
-                    power = shared_power(other, last)
-                    if power is None:
-                        break
-                    last = shared_element(side, power)
+                power = shared_power(other, last)
+                if power is None:
+                    break
+                last = shared_element(side, power)
             self.row.pop()
             element = bare_product(last, element)
         self.row.append((side, element))
@@ -70,7 +65,7 @@ class Factor:
                 carry = whole(u, plus(v, negate(power)))
             if power is None or carry is None:
                 return None
-            # Only the unit, which stands alone, has the power 0.
+            # A power of the shared letter at the end is put to the carry, and has no power of its own.
             if power:
                 found.append((self.half[2 * side], power))
         return None if carry else found

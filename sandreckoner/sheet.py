@@ -112,7 +112,7 @@ class Sheet:
     def calculate(self, names):
         """Calculates cells, each one behind those that it depends on."""
         self.fresh = sorted(names)
-        todo = list(names)
+        todo = names
         while todo:
             later = [name for name in todo if any([part in todo for part in self.cells[name].needs])]
             for name in todo:

@@ -12,12 +12,18 @@ PARTS = [
 ]
 
 
-def random_text(rng):
+def random_text(rng, names=NAMES):
     """A formula over names and small integers, in one of many spellings."""
-    words = {mark: rng.choice(NAMES + [str(rng.randrange(12))] * 5 + ["{z}"]) for mark in "xy"}
+    choices = list(names) + [str(rng.randrange(12)) for _ in range(5)]
+    inner = rng.choice(PARTS).format(x=rng.choice(choices), y=rng.randrange(9))
+    words = {mark: rng.choice(choices + [f"({inner})"]) for mark in "xy"}
     text = rng.choice(PARTS).format(**words)
-    text = text.format(z=f"({rng.choice(PARTS).format(x=rng.choice(NAMES), y=rng.randrange(9))})")
     return grammar.spaced(rng, grammar.loose_parts(rng, grammar.formula(text), more=rng.choice((0, 0.1))))
+
+
+def text_for(rng, name):
+    """A formula for a cell: mostly over names ahead of its own, so that there are few rings."""
+    return random_text(rng, NAMES if name not in NAMES or rng.randrange(12) == 0 else NAMES[:NAMES.index(name)])
 
 
 def names_in(tree):

@@ -2,6 +2,7 @@
 
 import itertools
 import random
+import string
 import time
 import unittest
 
@@ -12,6 +13,7 @@ import groups
 from groups import grown, inverse, put_in, random_word, turned
 
 NO_WORDS = ["a" * 41, "ab" * 21, "c", "C", "abc", "a b", " ", "a ", "1", "a1", "a-b", "(a)", "2^a", "."]
+NO_WORDS += [letter for letter in string.ascii_letters if letter not in "abAB"]
 
 
 def random_unit(rng):

@@ -2,6 +2,7 @@
 
 import itertools
 import random
+import string
 import unittest
 
 import model
@@ -15,6 +16,7 @@ import groups
 from groups import grown, inverse, random_word
 
 NO_WORDS = ["a" * 41, "bB" * 21, "c", "C", "a c", "b B", " ", "1", "."]
+NO_WORDS += [letter for letter in string.ascii_letters if letter not in "abAB"]
 
 
 def some_words(rng, many):

@@ -7,7 +7,7 @@ import grammar
 import groups
 import model
 import reckon
-from paper import NAMES, Paper, random_text
+from paper import NAMES, Paper, random_text, text_for
 from sandreckoner.desk import MAX_LINES, MAX_SCRIPT, MAX_UNDO, run_script
 from sandreckoner.errors import NotAllowed
 from sandreckoner.evaluate import value_of
@@ -268,9 +268,10 @@ class AgainstPaperTest(DeskCase):
 
     def change(self, rng, desk):
         """A random change and its answer."""
-        name, text = rng.choice(NAMES), random_text(rng)
+        name = rng.choice(NAMES)
+        text = text_for(rng, name)
         before = dict(desk.paper.trees)
-        if rng.randrange(5):
+        if rng.randrange(10):
             line, error = f"set {name} = {text}", desk.paper.put(name, text)
         else:
             line, error = f"clear {name}", desk.paper.drop(name)
@@ -282,7 +283,8 @@ class AgainstPaperTest(DeskCase):
 
     def question(self, rng, desk):
         """A random question and its answer."""
-        name, text, other = rng.choice(NAMES), random_text(rng), random_text(rng)
+        names = rng.choice((NAMES, sorted(desk.paper.trees)))
+        name, text, other = rng.choice(names or NAMES), random_text(rng, names), random_text(rng, names)
         first, second = [desk.paper.outcome(grammar.formula(part), value_of) for part in (text, other)]
         kind = rng.randrange(6)
         if kind == 0:
@@ -310,7 +312,7 @@ class AgainstPaperTest(DeskCase):
     def answer(self, rng, desk):
         """A random line and its answer."""
         kind = rng.randrange(12)
-        if kind < 5:
+        if kind < 6:
             return self.change(rng, desk)
         if kind < 7:
             return "undo", self.move(desk, desk.done, desk.undone)

@@ -2,6 +2,7 @@
 
 import itertools
 import random
+import string
 import time
 import unittest
 from fractions import Fraction
@@ -14,6 +15,7 @@ from groups import grown, inverse, put_in, random_word, turned
 
 PAIRS = ["ab", "bc", "cd", "da"]
 NO_WORDS = ["a" * 41, "abcd" * 10 + "a", "e", "E", "abe", "a b", " ", "d ", "1", "a1", "a-b", "(a)", "."]
+NO_WORDS += [letter for letter in string.ascii_letters if letter not in "abcdABCD"]
 
 
 def moved(word):

@@ -2,6 +2,7 @@
 
 import itertools
 import random
+import string
 import unittest
 
 import model
@@ -15,6 +16,7 @@ import groups
 from groups import grown, inverse, random_word
 
 NO_WORDS = ["a" * 41, "abcd" * 10 + "a", "e", "E", "a c", " ", "1", "."]
+NO_WORDS += [letter for letter in string.ascii_letters if letter not in "abcdABCD"]
 ONE, TWO = of_int(1), of_int(2)
 
 

@@ -6,7 +6,7 @@ import unittest
 import grammar
 import model
 import reckon
-from paper import NAMES, Paper, random_text
+from paper import NAMES, Paper, random_text, text_for
 from sandreckoner.errors import BadForm, BadRange, Missing, NotAllowed, ReckonError, Ring, TooLarge
 from sandreckoner.evaluate import value_of
 from sandreckoner.forms import of_int
@@ -343,10 +343,10 @@ class RenewedTest(SheetCase):
     def test_the_lists_are_new_ones(self):
         sheet = sheet_of(a="1", b="a")
         for function in (sheet.renewed, sheet.names):
-            expected = function()
+            expected = tuple(function())
             function().append("x")
             function().clear()
-            self.assertEqual(function(), expected)
+            self.assertEqual(tuple(function()), expected)
         self.assertEqual(sheet.names(), ["a", "b"])
 
 
@@ -418,7 +418,32 @@ class LoadSheetTest(SheetCase):
 
     def test_a_ring_over_names_behind(self):
         self.refused(BadForm, load_sheet, "a=d;b=1;c=a;d=c;")
+        # A cell that leads to a ring, and does not stand in it.
+        self.refused(BadForm, load_sheet, "a=b;b=c;c=b;")
+        self.refused(BadForm, load_sheet, "a=b;b=1;c=d;d=e + a;e=d;")
         self.same("a=d;b=1;c=a;d=b;")
+
+
+class PutCellsTest(SheetCase):
+    def test_all_cells_are_replaced(self):
+        sheet = sheet_of(a="1", b="low(0)", c="a")
+        other = sheet_of(c="a + 1", d="7")
+        cells = dict(other.cells)
+        sheet.put_cells(cells)
+        self.assertEqual(sheet.image(), "c=a + 1;d=7;")
+        self.assertEqual(sheet.renewed(), ["c", "d"])
+        self.values(sheet, a="Missing", b="Missing", c="Missing", d=7)
+        sheet.set_cell("a", "1")
+        sheet.clear_cell("d")
+        self.assertEqual(list(cells), ["c", "d"])
+        cells.clear()
+        self.values(sheet, a=1, c=2)
+        sheet.put_cells({})
+        self.assertEqual(state(sheet), ([], [], [], [], ""))
+        self.values(sheet, a="Missing", c="Missing")
+        sheet.set_cell("z", "rem(1, 0)")
+        sheet.put_cells({})
+        self.values(sheet, z="Missing")
 
 
 class AgainstPaperTest(SheetCase):
@@ -441,10 +466,10 @@ class AgainstPaperTest(SheetCase):
 
     def change(self, rng, sheet, paper):
         name = rng.choice(NAMES + ["A", "if", ""] * (rng.randrange(20) == 0))
-        if rng.randrange(6) == 0:
+        if rng.randrange(10) == 0:
             self.assertEqual(error_of(sheet.clear_cell, name), paper.drop(name))
             return
-        text = random_text(rng)
+        text = text_for(rng, name)
         if name in paper.trees and rng.randrange(8) == 0:
             text = grammar.spaced(rng, grammar.loose_parts(rng, paper.trees[name]))
         if rng.randrange(15) == 0:
@@ -458,7 +483,8 @@ class AgainstPaperTest(SheetCase):
             for _ in range(40):
                 self.change(rng, sheet, paper)
                 self.compare(sheet, paper)
-                text = random_text(rng)
+                names = rng.choice((NAMES, sheet.names()))
+                text = random_text(rng, names)
                 self.same_value(paper, grammar.formula(text), result_of(sheet.value_of_formula, text))
 
     def test_images_are_read_back(self):
