@@ -2,8 +2,8 @@
 
 from sandreckoner.affine import bare_inverse, bare_plain, bare_product
 from sandreckoner.forms import allowed
-from sandreckoner.pinches import Row, check_word
-from sandreckoner.words import inverse_word
+from sandreckoner.pinches import Row
+from sandreckoner.words import LETTERS_OF_BAUMSLAG, check_word, inverse_word
 
 UNIT = ((), (), ())
 
@@ -43,12 +43,12 @@ def leaves_unit(word):
 
 def is_unit(word):
     """Whether a word is the unit of the group."""
-    check_word(word)
+    check_word(LETTERS_OF_BAUMSLAG, word)
     return leaves_unit(word)
 
 
 def are_same(first, second):
     """Whether two words are the same element of the group."""
-    check_word(first)
-    check_word(second)
+    check_word(LETTERS_OF_BAUMSLAG, first)
+    check_word(LETTERS_OF_BAUMSLAG, second)
     return leaves_unit(first + inverse_word(second))

@@ -79,7 +79,7 @@ class Desk:
         if word == "unit":
             return yes_or_no(is_unit(letters_of(parts[0])))
         if word == "high":
-            # The same as the word without letters: the unit.
+            # Higman's is_unit has the name of Baumslag's: the unit is what is the same as no letters.
             return yes_or_no(are_same(letters_of(parts[0]), ""))
         return program_answer(parts[0])
 

@@ -1,18 +1,10 @@
 """Words of Higman's group as rows of factors, and handing them over."""
 
-from sandreckoner.errors import BadForm
 from sandreckoner.halves import Factor
-from sandreckoner.words import is_word
 
-LETTERS_OF_HIGMAN = "abcd"
 OTHER_HALF = {"abc": "cda", "cda": "abc"}
 ONE = ((1, ()),)
 MINUS_ONE = ((-1, ()),)
-
-
-def check_word(word):
-    if not is_word(LETTERS_OF_HIGMAN, word):
-        raise BadForm("not a word over a, b, c and d")
 
 
 class Factors:

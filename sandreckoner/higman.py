@@ -1,7 +1,7 @@
 """Higman's group: the lengths of words, and whether words are the unit."""
 
-from sandreckoner.factors import Factors, check_word
-from sandreckoner.words import inverse_word
+from sandreckoner.factors import Factors
+from sandreckoner.words import LETTERS_OF_HIGMAN, check_word, inverse_word
 
 
 def end_of(word):
@@ -13,18 +13,18 @@ def end_of(word):
 
 def length_of(word):
     """The length of a word."""
-    check_word(word)
+    check_word(LETTERS_OF_HIGMAN, word)
     return end_of(word)[0]
 
 
 def is_unit(word):
     """Whether a word is the unit of the group."""
-    check_word(word)
+    check_word(LETTERS_OF_HIGMAN, word)
     return end_of(word) == (0, [])
 
 
 def are_same(first, second):
     """Whether two words are the same element of the group."""
-    check_word(first)
-    check_word(second)
+    check_word(LETTERS_OF_HIGMAN, first)
+    check_word(LETTERS_OF_HIGMAN, second)
     return end_of(first + inverse_word(second)) == (0, [])

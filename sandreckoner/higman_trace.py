@@ -1,12 +1,13 @@
 """Higman's group: the factors that are handed over when a word is reduced."""
 
 from sandreckoner.errors import Missing, NotAllowed
-from sandreckoner.factors import Factors, check_word
+from sandreckoner.factors import Factors
+from sandreckoner.words import LETTERS_OF_HIGMAN, check_word
 
 
 def trace(word):
     """A tuple of what reducing a word hands over, its length, and the powers of what is left."""
-    check_word(word)
+    check_word(LETTERS_OF_HIGMAN, word)
     factors = Factors(word)
     steps = factors.reduce()
     left, end = factors.end()
@@ -15,7 +16,7 @@ def trace(word):
 
 def check_trace(word, steps):
     """Hands over factors that are told by their places and powers: how many are left, and the powers left."""
-    check_word(word)
+    check_word(LETTERS_OF_HIGMAN, word)
     factors = Factors(word)
     for place, powers in steps:
         found = factors.powers_at(place)

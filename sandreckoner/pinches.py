@@ -1,16 +1,7 @@
 """Words of Baumslag's group as rows of outer letters, and their pinches."""
 
 from sandreckoner.affine import adding, as_adding, as_doubling, bare_product, doubling
-from sandreckoner.errors import BadForm
 from sandreckoner.small import bare_number
-from sandreckoner.words import is_word
-
-LETTERS_OF_BAUMSLAG = "ab"
-
-
-def check_word(word):
-    if not is_word(LETTERS_OF_BAUMSLAG, word):
-        raise BadForm("not a word over a and b")
 
 
 class Row:
