@@ -60,6 +60,11 @@ class ScriptsTest(DeskCase):
                 run_script(script)
         text = "1 + " * 200 + "1"
         self.assertEqual(lines(*["value " + text] * 3), ["201"] * 3)
+        # As many lines and as many characters as there may be.
+        both = "\n".join(["x" * 74] * 39 + ["x" * 75])
+        self.assertEqual(run_script(both), ["bad"] * 40)
+        with self.assertRaises(NotAllowed):
+            run_script(both + "x")
 
     def test_two_scripts_do_not_touch_each_other(self):
         self.assertEqual(lines("set a = 1", "show a"), ["ok", "1"])
